@@ -149,6 +149,11 @@ func gridRows(g Grid) int {
 	return len(g.Cells) / g.Wide
 }
 
+// placeOk says whether a grid has such a place.
+func placeOk(g Grid, at int) bool {
+	return at >= 0 && at < len(g.Cells)
+}
+
 // CellOk says whether a cell is ok.
 func CellOk(c Cell) bool {
 	k, ok := kindOf(c.Kind)
@@ -217,7 +222,7 @@ func GridRead(text string) (Grid, bool) {
 
 // GridPut is a grid with another cell.
 func GridPut(g Grid, at int, c Cell) (Grid, bool) {
-	if !GridOk(g) || !CellOk(c) || at < 0 || at >= len(g.Cells) {
+	if !GridOk(g) || !CellOk(c) || !placeOk(g, at) {
 		return Grid{}, false
 	}
 	cells := make([]Cell, len(g.Cells))
