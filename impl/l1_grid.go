@@ -154,6 +154,13 @@ func placeOk(g Grid, at int) bool {
 	return at >= 0 && at < len(g.Cells)
 }
 
+// copyGrid is the same grid in new memory.
+func copyGrid(g Grid) Grid {
+	cells := make([]Cell, len(g.Cells))
+	copy(cells, g.Cells)
+	return Grid{Wide: g.Wide, Cells: cells}
+}
+
 // CellOk says whether a cell is ok.
 func CellOk(c Cell) bool {
 	k, ok := kindOf(c.Kind)
@@ -225,10 +232,9 @@ func GridPut(g Grid, at int, c Cell) (Grid, bool) {
 	if !GridOk(g) || !CellOk(c) || !placeOk(g, at) {
 		return Grid{}, false
 	}
-	cells := make([]Cell, len(g.Cells))
-	copy(cells, g.Cells)
-	cells[at] = c
-	return Grid{Wide: g.Wide, Cells: cells}, true
+	put := copyGrid(g)
+	put.Cells[at] = c
+	return put, true
 }
 
 // GridTurn is a grid, turned by a quarter.

@@ -1,0 +1,198 @@
+package tests
+
+import (
+	"slices"
+	"testing"
+
+	"loop.example/lucarne/impl"
+)
+
+// lentOf is a list that lies amid a longer one, with spare room behind it.
+func lentOf[T any](list []T, fill T) (whole, inner []T) {
+	whole = slices.Concat(slices.Repeat([]T{fill}, around), list, slices.Repeat([]T{fill}, around))
+	return whole, whole[around : around+len(list)]
+}
+
+// lentLists is the longer lists amid which those of a scene lie.
+type lentLists struct {
+	cells  []impl.Cell
+	lights []int
+	feet   [][]int
+	rows   [][]int
+}
+
+// lentScene is a scene all of whose lists lie amid longer ones.
+func lentScene(s impl.Scene) (whole lentLists, inner impl.Scene) {
+	whole.cells, inner.Grid = lent(s.Grid)
+	whole.lights, inner.Lights = lentOf(s.Lights, -7)
+	var feet [][]int
+	for _, foot := range s.Feet {
+		row, in := lentOf(foot, -7)
+		whole.rows = append(whole.rows, row)
+		feet = append(feet, in)
+	}
+	whole.feet, inner.Feet = lentOf(feet, []int{-7})
+	return whole, inner
+}
+
+// copied is the same longer lists, sharing nothing with these.
+func (l lentLists) copied() lentLists {
+	return lentLists{slices.Clone(l.cells), slices.Clone(l.lights), copyRows(l.feet), copyRows(l.rows)}
+}
+
+func (l lentLists) same(other lentLists) bool {
+	return slices.Equal(l.cells, other.cells) && slices.Equal(l.lights, other.lights) && sameRows(l.feet, other.feet) && sameRows(l.rows, other.rows)
+}
+
+// spoil writes over all of the lists.
+func (l lentLists) spoil() {
+	spoilAll(l.cells, impl.Cell{Kind: -8, Light: -8})
+	spoilAll(l.lights, -8)
+	for _, row := range l.rows {
+		spoilAll(row, -8)
+	}
+	spoilAll(l.feet, []int{-8})
+}
+
+// sceneAnswer is what is answered of a scene.
+type sceneAnswer struct {
+	scene  impl.Scene
+	sights []int
+	ok     bool
+}
+
+func (a sceneAnswer) copied() sceneAnswer {
+	return sceneAnswer{copyScene(a.scene), slices.Clone(a.sights), a.ok}
+}
+
+func (a sceneAnswer) same(other sceneAnswer) bool {
+	return a.ok == other.ok && slices.Equal(a.sights, other.sights) && sameScene(a.scene, other.scene)
+}
+
+// spoil writes over all lists of an answer, spare room included, and fails if two of them share any.
+func (a sceneAnswer) spoil(t *testing.T, g impl.Grid) {
+	t.Helper()
+	cells := slices.Clone(a.scene.Grid.Cells)
+	spoilRows(t, g, append([][]int{a.scene.Lights, a.sights}, a.scene.Feet...))
+	spoilAll(a.scene.Feet, []int{-9})
+	if !slices.Equal(a.scene.Grid.Cells, cells) {
+		t.Fatalf("%v: the cells of an answer change with its numbers", g)
+	}
+	spoil(a.scene.Grid)
+}
+
+// sceneAsks is all that is asked of a scene, and answers lists; edits lie amid a longer list, as a scene's lists do.
+func sceneAsks(g impl.Grid, list []impl.Edit) map[string]func(impl.Scene) sceneAnswer {
+	many := func(s impl.Scene, list []impl.Edit) sceneAnswer {
+		x, anew, ok := impl.SceneMany(s, list)
+		return sceneAnswer{x, anew, ok}
+	}
+	one := func(s impl.Scene, e impl.Edit) sceneAnswer {
+		x, anew, ok := impl.SceneEdit(s, e)
+		return sceneAnswer{x, anew, ok}
+	}
+	last := len(g.Cells) - 1
+	return map[string]func(impl.Scene) sceneAnswer{
+		"SceneNew": func(s impl.Scene) sceneAnswer {
+			x, ok := impl.SceneNew(s.Grid)
+			return sceneAnswer{x, nil, ok}
+		},
+		"SceneTouch, first":        func(s impl.Scene) sceneAnswer { return sceneAnswer{sights: impl.SceneTouch(s, 0)} },
+		"SceneTouch, last":         func(s impl.Scene) sceneAnswer { return sceneAnswer{sights: impl.SceneTouch(s, last)} },
+		"SceneTouch, none":         func(s impl.Scene) sceneAnswer { return sceneAnswer{sights: impl.SceneTouch(s, -1)} },
+		"SceneOk":                  func(s impl.Scene) sceneAnswer { return sceneAnswer{ok: impl.SceneOk(s)} },
+		"SceneEdit, first":         func(s impl.Scene) sceneAnswer { return one(s, edit(0, "#")) },
+		"SceneEdit, last":          func(s impl.Scene) sceneAnswer { return one(s, edit(last, "9")) },
+		"SceneEdit, what is there": func(s impl.Scene) sceneAnswer { return one(s, impl.Edit{At: last, Cell: g.Cells[last]}) },
+		"SceneEdit, past the end":  func(s impl.Scene) sceneAnswer { return one(s, edit(last+1, ".")) },
+		"SceneMany, none":          func(s impl.Scene) sceneAnswer { return many(s, nil) },
+		"SceneMany, some":          func(s impl.Scene) sceneAnswer { return many(s, list[:3]) },
+		"SceneMany, all":           func(s impl.Scene) sceneAnswer { return many(s, list[:20]) },
+		"SceneMany, too many":      func(s impl.Scene) sceneAnswer { return many(s, list) },
+		"SceneMany, a wrong one":   func(s impl.Scene) sceneAnswer { return many(s, append(slices.Clone(list[:3]), edit(-1, "."))) },
+	}
+}
+
+func TestScenesAreNewMemory(t *testing.T) {
+	d := &dice{7}
+	for _, g := range append(sceneGrids(t), mustRead(t, "###\n#.#\n###\n")) {
+		s := handScene(g)
+		for name, ask := range sceneAsks(g, rolledEdits(d, g, 21)) {
+			whole, inner := lentScene(s)
+			ahead := whole.copied()
+			first, second := ask(inner), ask(inner)
+			if !whole.same(ahead) {
+				t.Fatalf("%s writes into %v, or around it", name, g)
+			}
+			want := first.copied()
+			if !second.same(want) {
+				t.Fatalf("%s of %v is %v, then %v", name, g, first, second)
+			}
+			first.spoil(t, g)
+			if !whole.same(ahead) {
+				t.Fatalf("%s shares its answer with %v", name, g)
+			}
+			if !second.same(want) || !ask(inner).same(want) {
+				t.Fatalf("%s of %v: two answers share memory", name, g)
+			}
+			whole.spoil()
+			if !second.same(want) {
+				t.Fatalf("%s of %v: the answer changes with the argument", name, g)
+			}
+		}
+	}
+}
+
+func TestScenesWriteNothingIntoEdits(t *testing.T) {
+	d := &dice{8}
+	for _, g := range sceneGrids(t) {
+		s := mustScene(t, g)
+		for _, many := range []int{0, 1, 2, 20, 21} {
+			whole, list := lentOf(rolledEdits(d, g, many), impl.Edit{At: -7, Cell: impl.Cell{Kind: -7, Light: -7}})
+			ahead := slices.Clone(whole)
+			x, anew, ok := impl.SceneMany(s, list)
+			if !slices.Equal(whole, ahead) {
+				t.Fatalf("%v: the edits are written into, or around them: %v", g, whole)
+			}
+			want := sceneAnswer{x, anew, ok}.copied()
+			spoilAll(whole, impl.Edit{At: -8})
+			if !want.same(sceneAnswer{x, anew, ok}) {
+				t.Fatalf("%v: the answer changes with the edits", g)
+			}
+		}
+	}
+}
+
+func TestWrongScenesAreNotWritten(t *testing.T) {
+	for _, text := range []string{"./5\n", "x.\n:5\n"} {
+		s := mustScene(t, mustRead(t, text))
+		for why, wrong := range wrongChanges() {
+			x := copyScene(s)
+			if !wrong(&x, 1) {
+				continue
+			}
+			whole, inner := lentScene(x)
+			ahead := whole.copied()
+			holdNoScene(t, why, inner)
+			if !whole.same(ahead) {
+				t.Fatalf("%s: %v is written into, or around it", why, x)
+			}
+		}
+	}
+}
+
+func TestScenesAreTheSameEveryTime(t *testing.T) {
+	d := &dice{9}
+	for _, g := range slices.Concat(roundGrids(t), wholeGrids()) {
+		s, list := mustScene(t, g), rolledEdits(d, g, 6)
+		x, anew := handScene(handPut(g, list...)), handTouches(g, list)
+		for range 60 {
+			if y, same := mustMany(t, s, list...); !sameScene(y, x) || !slices.Equal(same, anew) {
+				t.Fatalf("%v with %v is %v, %v, not %v, %v", g, list, y, same, x, anew)
+			}
+			if touch := impl.SceneTouch(s, list[0].At); !slices.Equal(touch, handTouch(g, list[0].At)) {
+				t.Fatalf("%v: %v see %d", g, touch, list[0].At)
+			}
+		}
+	}
+}
