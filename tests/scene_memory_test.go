@@ -7,12 +7,6 @@ import (
 	"loop.example/lucarne/impl"
 )
 
-// lentOf is a list that lies amid a longer one, with spare room behind it.
-func lentOf[T any](list []T, fill T) (whole, inner []T) {
-	whole = slices.Concat(slices.Repeat([]T{fill}, around), list, slices.Repeat([]T{fill}, around))
-	return whole, whole[around : around+len(list)]
-}
-
 // lentLists is the longer lists amid which those of a scene lie.
 type lentLists struct {
 	cells  []impl.Cell
@@ -118,27 +112,7 @@ func TestScenesAreNewMemory(t *testing.T) {
 	for _, g := range append(sceneGrids(t), mustRead(t, "###\n#.#\n###\n")) {
 		s := handScene(g)
 		for name, ask := range sceneAsks(g, rolledEdits(d, g, 21)) {
-			whole, inner := lentScene(s)
-			ahead := whole.copied()
-			first, second := ask(inner), ask(inner)
-			if !whole.same(ahead) {
-				t.Fatalf("%s writes into %v, or around it", name, g)
-			}
-			want := first.copied()
-			if !second.same(want) {
-				t.Fatalf("%s of %v is %v, then %v", name, g, first, second)
-			}
-			first.spoil(t, g)
-			if !whole.same(ahead) {
-				t.Fatalf("%s shares its answer with %v", name, g)
-			}
-			if !second.same(want) || !ask(inner).same(want) {
-				t.Fatalf("%s of %v: two answers share memory", name, g)
-			}
-			whole.spoil()
-			if !second.same(want) {
-				t.Fatalf("%s of %v: the answer changes with the argument", name, g)
-			}
+			holdNewAnswer(t, name, g, s, lentScene, ask)
 		}
 	}
 }
