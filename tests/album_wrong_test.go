@@ -80,7 +80,7 @@ func TestAlbumsWithWrongEdits(t *testing.T) {
 
 func TestAlbumOfAPlaceInSpareRoom(t *testing.T) {
 	// A cell that lies behind the grid's is none of its places.
-	_, s := lentScene(mustScene(t, mustRead(t, "..\n..\n")))
+	s := lendScene(&loan{}, mustScene(t, mustRead(t, "..\n..\n")))
 	holdNoAlbum(t, "a place in spare room", impl.Album{Scene: s, Past: []impl.Edit{edit(4, ".")}})
 	holdNoAlbum(t, "a place in spare room", impl.Album{Scene: s, Next: []impl.Edit{edit(4, ".")}})
 	holdNotDo(t, impl.Album{Scene: s}, edit(4, "."))

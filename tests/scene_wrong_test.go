@@ -109,6 +109,18 @@ func wrongChanges() map[string]change {
 	return all
 }
 
+// wrongScenes is scenes that are not that of their grid, made from that of an ok one.
+func wrongScenes(g impl.Grid) []impl.Scene {
+	var all []impl.Scene
+	for _, wrong := range wrongChanges() {
+		s := handScene(g)
+		if wrong(&s, 1) {
+			all = append(all, s)
+		}
+	}
+	return all
+}
+
 func TestWrongScenes(t *testing.T) {
 	tried := map[string]int{}
 	for _, text := range []string{"5\n", "./5\n", ".\n/\n5\n", "x.\n:5\n", "/\\..\\\n\\x.1.\n..9..\n#..z.\n\\.:./\n"} {
@@ -147,7 +159,7 @@ func TestSceneOfAnotherGrid(t *testing.T) {
 
 func TestSceneOkWithSpareRoom(t *testing.T) {
 	for _, g := range sceneGrids(t) {
-		_, s := lentScene(mustScene(t, g))
+		s := lendScene(&loan{}, mustScene(t, g))
 		if !impl.SceneOk(s) {
 			t.Fatalf("not ok with spare room: %v", s)
 		}
