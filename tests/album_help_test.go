@@ -142,7 +142,7 @@ func mustOn(t *testing.T, a impl.Album, many int) impl.Album {
 func holdNotBack(t *testing.T, a impl.Album) {
 	t.Helper()
 	if x, ok := impl.AlbumBack(a); ok || !isNoAlbum(x) {
-		t.Fatalf("%.900v: AlbumBack is %v, %v", a, x, ok)
+		t.Fatalf("%s: AlbumBack is %v, %v", short(a), x, ok)
 	}
 }
 
@@ -150,7 +150,7 @@ func holdNotBack(t *testing.T, a impl.Album) {
 func holdNotOn(t *testing.T, a impl.Album) {
 	t.Helper()
 	if x, ok := impl.AlbumOn(a); ok || !isNoAlbum(x) {
-		t.Fatalf("%.900v: AlbumOn is %v, %v", a, x, ok)
+		t.Fatalf("%s: AlbumOn is %v, %v", short(a), x, ok)
 	}
 }
 
@@ -158,7 +158,7 @@ func holdNotOn(t *testing.T, a impl.Album) {
 func holdNotDo(t *testing.T, a impl.Album, e impl.Edit) {
 	t.Helper()
 	if x, ok := impl.AlbumDo(a, e); ok || !isNoAlbum(x) {
-		t.Fatalf("%.900v: AlbumDo with %v is %v, %v", a, e, x, ok)
+		t.Fatalf("%s: AlbumDo with %v is %v, %v", short(a), e, x, ok)
 	}
 }
 
@@ -166,7 +166,7 @@ func holdNotDo(t *testing.T, a impl.Album, e impl.Edit) {
 func holdNoAlbum(t *testing.T, why string, a impl.Album) {
 	t.Helper()
 	if impl.AlbumOk(a) {
-		t.Fatalf("%s: ok: %.900v", why, a)
+		t.Fatalf("%s: ok: %s", why, short(a))
 	}
 	holdNotBack(t, a)
 	holdNotOn(t, a)

@@ -1,6 +1,7 @@
 package tests
 
 import (
+	"fmt"
 	"slices"
 	"testing"
 
@@ -13,6 +14,12 @@ type dice struct{ state uint64 }
 func (d *dice) roll(many int) int {
 	d.state = d.state*6364136223846793005 + 1442695040888963407
 	return int((d.state >> 33) % uint64(many))
+}
+
+// short is how a value is told when it may be very long.
+func short(value any) string {
+	text := fmt.Sprint(value)
+	return text[:min(len(text), 900)]
 }
 
 // signedCell is an ok cell, and the sign that the document gives it.

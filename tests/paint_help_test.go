@@ -170,7 +170,7 @@ func mustHear(t *testing.T, p impl.Painter, words ...impl.Word) impl.Painter {
 func holdStays(t *testing.T, why string, p impl.Painter, w impl.Word) {
 	t.Helper()
 	if x := mustHear(t, p, w); !samePainter(x, p) {
-		t.Fatalf("%s: %v hears %.600v, and is %v", why, p, w, x)
+		t.Fatalf("%s: %v hears %s, and is %v", why, p, short(w), x)
 	}
 }
 
@@ -188,7 +188,7 @@ func mustTell(t *testing.T, p impl.Painter, id, many int) impl.Word {
 func holdTellsNothing(t *testing.T, why string, p impl.Painter, id, many int) {
 	t.Helper()
 	if w, ok := impl.PaintTell(p, id, many); ok || !isNoWord(w) {
-		t.Fatalf("%s: %.600v: PaintTell as %d of %d is %v, %v", why, p, id, many, w, ok)
+		t.Fatalf("%s: %s: PaintTell as %d of %d is %v, %v", why, short(p), id, many, w, ok)
 	}
 }
 
@@ -196,12 +196,12 @@ func holdTellsNothing(t *testing.T, why string, p impl.Painter, id, many int) {
 func holdNoPaint(t *testing.T, why string, p impl.Painter) {
 	t.Helper()
 	if impl.PaintOk(p) {
-		t.Fatalf("%s: ok: %.600v", why, p)
+		t.Fatalf("%s: ok: %s", why, short(p))
 	}
 	g := impl.Grid{Wide: 1, Cells: []impl.Cell{{Kind: 7, Light: 5}}}
 	for _, w := range []impl.Word{{}, wholeWord(verMost, g), wholeWord(p.Ver, g), editWord(p.Ver+1, edit(0, "5")), editWord(1, edit(0, "5")), {Kind: 3, From: 1}, {Kind: 4, From: 1}} {
 		if x := impl.PaintHear(p, w); !isNoPainter(x) {
-			t.Fatalf("%s: %.600v hears %v, and is %v", why, p, w, x)
+			t.Fatalf("%s: %s hears %v, and is %v", why, short(p), w, x)
 		}
 	}
 	eachOfPainters(func(id, many int) {

@@ -207,7 +207,7 @@ func TestEditMax(t *testing.T) {
 func holdNotDone(t *testing.T, s impl.Scene, list []impl.Edit) {
 	t.Helper()
 	if x, anew, ok := impl.SceneMany(s, list); ok || !isNoScene(x) || len(anew) != 0 {
-		t.Fatalf("%v with %d edits, %.300v: %v, %v, %v", s, len(list), list, x, anew, ok)
+		t.Fatalf("%v with %d edits, %s: %v, %v, %v", s, len(list), short(list), x, anew, ok)
 	}
 	if len(list) != 1 {
 		return
