@@ -1,6 +1,9 @@
 package impl
 
-import "strings"
+import (
+	"slices"
+	"strings"
+)
 
 // Limits of grids.
 const (
@@ -159,6 +162,11 @@ func copyGrid(g Grid) Grid {
 	cells := make([]Cell, len(g.Cells))
 	copy(cells, g.Cells)
 	return Grid{Wide: g.Wide, Cells: cells}
+}
+
+// sameGrid says whether two grids are the same.
+func sameGrid(a, b Grid) bool {
+	return a.Wide == b.Wide && slices.Equal(a.Cells, b.Cells)
 }
 
 // CellOk says whether a cell is ok.
