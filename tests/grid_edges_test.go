@@ -117,13 +117,18 @@ func TestPutPastTheEndInSpareRoom(t *testing.T) {
 	}
 }
 
-func TestWrongTexts(t *testing.T) {
-	wrong := []string{
+// wrongTexts is texts that are no grid's.
+func wrongTexts() []string {
+	return []string{
 		"", "\n", "\n\n", ".", "..", ".\n.", "..\n..", ".\n\n", "\n.\n", ".\n\n.\n",
 		"..\n.\n", ".\n..\n", "...\n..\n.\n", "..\n.\n\n", "......\n", ".\n.\n.\n.\n.\n.\n",
 		"0\n", "10\n.\n", " \n", ".\r\n", "\x00\n", "X\n", "Z\n", "-\n", "a\n", "\xff\n", "é\n", "ééé\n...\n",
 		"\ufeff.\n", "/9\n.\x89\n", "...\n.0.\n", "..\n.?\n", ".\n ", ". \n", ".\n.\n\x00",
 	}
+}
+
+func TestWrongTexts(t *testing.T) {
+	wrong := wrongTexts()
 	wrong = append(wrong, strings.Repeat(".", 100000), strings.Repeat(".\n", 100000), strings.Repeat("\n", 100000))
 	for _, text := range wrong {
 		if g, ok := impl.GridRead(text); ok || !isNoGrid(g) {
